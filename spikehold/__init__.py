@@ -1,0 +1,1 @@
+"""Spikehold: a simulator of networks of spiking neurons."""

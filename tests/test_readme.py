@@ -1,0 +1,18 @@
+"""The example of README.md shows what the program returns."""
+
+import doctest
+import os
+import unittest
+
+README = os.path.join(os.path.dirname(os.path.dirname(os.path.abspath(__file__))), "README.md")
+
+
+class ReadmeTest(unittest.TestCase):
+    def test_the_example(self):
+        failed, tried = doctest.testfile(README, module_relative=False)
+        self.assertEqual(failed, 0)
+        self.assertGreater(tried, 0)
+
+
+if __name__ == "__main__":
+    unittest.main()
