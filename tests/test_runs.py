@@ -44,6 +44,13 @@ class SizesTest(unittest.TestCase):
         self.assertEqual(found.spikes, [[]] + [[n] for n in range(500)])
 
 
+    def test_somewhat_beyond_the_limits_no_error_is_raised(self):
+        neurons = [Neuron(5, leak=16, refractory=16)] * 501
+        synapses = [Synapse(16, 500, (1 << 20) + 1, 16, True)]
+        found = run(Network(17, neurons, synapses, Rule(1001, 1001, 101, 0, 1 << 21)), [[16]] + [[]] * 16)
+        self.assertEqual(found, Run([[]] * 16 + [[500]], [(1 << 20) + 1002]))
+
+
 class SpikesTest(unittest.TestCase):
     def test_example_of_the_document(self):
         chain = Network(1, [Neuron(5), Neuron(5)], [Synapse(0, 0, 5, 1), Synapse(1, 1, 3, 2)])
