@@ -91,28 +91,46 @@ def potentiated(rule, weight):
 
 def run(network, stimuli):
     """Return the run of a network, with one tick for each stimulus."""
-    potentials = [0] * len(network.neurons)
-    rests = [0] * len(network.neurons)
-    last_spikes = [None] * len(network.neurons)
-    last_arrivals = [None] * len(network.synapses)
-    weights = [synapse.weight for synapse in network.synapses]
+    state = state_at_start(network)
     fired = []
     spikes = []
     for tick, stimulus in enumerate(stimuli):
-        arriving = _arriving(network, fired, tick)
-        # The sums come first: the loss of this tick does not count in it.
-        sums = _incoming_sums(network, weights, arriving)
-        weights = _after_losses(network, weights, arriving, last_spikes, tick)
-        last_arrivals = _noted(last_arrivals, arriving, tick)
-        steps = _steps(network, potentials, rests, sums)
-        potentials = [row[0] for row in steps]
-        rests = [row[1] for row in steps]
-        spiking = [n for n, row in enumerate(steps) if row[2]]
-        weights = _after_gains(network, weights, spiking, last_arrivals, tick)
-        last_spikes = _noted(last_spikes, spiking, tick)
+        state, spiking = state_after(network, state, _arriving(network, fired, tick), tick)
         fired.append(_spiking_sources(network, stimulus, spiking))
         spikes.append(spiking)
-    return Run(spikes, weights)
+    return Run(spikes, weights_of(state))
+
+
+def state_at_start(network):
+    """Return the state of the neurons and synapses before the first tick.
+
+    It is a tuple of tuples: the potentials and rests of the neurons, the ticks of their last spikes,
+    the weights of the synapses, and the ticks of their last arrivals.
+    """
+    zeros = (0,) * len(network.neurons)
+    weights = tuple([synapse.weight for synapse in network.synapses])
+    return zeros, zeros, (None,) * len(network.neurons), weights, (None,) * len(network.synapses)
+
+
+def state_after(network, state, arriving, tick):
+    """Return the state after a tick in which some synapses arrive, by their indexes, and the neurons that spike."""
+    potentials, rests, last_spikes, weights, last_arrivals = state
+    # The sums come first: the loss of this tick does not count in it.
+    sums = _incoming_sums(network, weights, arriving)
+    weights = _after_losses(network, weights, arriving, last_spikes, tick)
+    last_arrivals = _noted(last_arrivals, arriving, tick)
+    steps = _steps(network, potentials, rests, sums)
+    potentials = tuple([row[0] for row in steps])
+    rests = tuple([row[1] for row in steps])
+    spiking = [n for n, row in enumerate(steps) if row[2]]
+    weights = _after_gains(network, weights, spiking, last_arrivals, tick)
+    last_spikes = _noted(last_spikes, spiking, tick)
+    return (potentials, rests, last_spikes, weights, last_arrivals), spiking
+
+
+def weights_of(state):
+    """Return the weights of a state."""
+    return list(state[3])
 
 
 def _arriving(network, fired, tick):
@@ -144,27 +162,27 @@ def _steps(network, potentials, rests, sums):
 def _after_losses(network, weights, arriving, last_spikes, tick):
     """Return the weights after the losses of a tick, by the last spikes before it."""
     rule = network.rule
-    changed = list(weights)
     if rule is None:
-        return changed
+        return weights
+    changed = list(weights)
     for k in arriving:
         synapse = network.synapses[k]
         if synapse.plastic and _is_recent(last_spikes[synapse.target], tick, rule.window):
             changed[k] = depressed(rule, weights[k])
-    return changed
+    return tuple(changed)
 
 
 def _after_gains(network, weights, spiking, last_arrivals, tick):
     """Return the weights after the gains of a tick, by the last arrivals up to it."""
     rule = network.rule
-    changed = list(weights)
     if rule is None:
-        return changed
+        return weights
+    changed = list(weights)
     spikes_now = {n: True for n in spiking}
     for k, synapse in enumerate(network.synapses):
         if synapse.plastic and synapse.target in spikes_now and _is_recent(last_arrivals[k], tick, rule.window):
             changed[k] = potentiated(rule, weights[k])
-    return changed
+    return tuple(changed)
 
 
 def _is_recent(last, tick, window):
@@ -173,11 +191,11 @@ def _is_recent(last, tick, window):
 
 
 def _noted(ticks, indexes, tick):
-    """Return the list of ticks with this tick at each of the indexes."""
+    """Return the ticks with this tick at each of the indexes."""
     noted = list(ticks)
     for k in indexes:
         noted[k] = tick
-    return noted
+    return tuple(noted)
 
 
 def _spiking_sources(network, stimulus, spiking):

@@ -24,8 +24,45 @@ INTERFACE = {
         "Run": "(spikes, weights)",
         "run": "(network, stimuli)",
     },
+    "mesh": {
+        "Mesh": "(width, height, room)",
+        "distance": "(mesh, first, second)",
+        "way": "(mesh, core, destination)",
+        "Traffic": "(mesh)",
+        "deliver": "(mesh, packets)",
+    },
+    "mapping": {
+        "Chip": "(mesh, slots, cycles)",
+        "Mapping": "(homes, gates, routes, rows)",
+        "row_of": "(synapse)",
+        "judge": "(network, chip, mapping)",
+        "simple_mapping": "(network, chip)",
+        "entry": "(network, mapping, source)",
+        "enough_cycles": "(network, chip, mapping)",
+    },
+    "chips": {
+        "ChipRun": "(spikes, weights, overrun)",
+        "packets_of": "(network, mapping, sources)",
+        "ChipState": "(network, chip, mapping)",
+        "restored": "(network, chip, mapping, saved)",
+        "run_chip": "(network, chip, mapping, stimuli)",
+    },
 }
-METHODS = {"networks": {"Network": {"sources": "(self)"}}}
+METHODS = {
+    "networks": {"Network": {"sources": "(self)"}},
+    "mesh": {
+        "Mesh": {"cores": "(self)"},
+        "Traffic": {"put": "(self, core, packet)", "cycle": "(self)", "waiting": "(self)"},
+    },
+    "chips": {"ChipState": {"tick": "(self, stimulus)", "weights": "(self)", "saved": "(self)"}},
+}
+COMPARED = {
+    "neurons": ["Neuron"],
+    "networks": ["Synapse", "Rule", "Network", "Run"],
+    "mesh": ["Mesh"],
+    "mapping": ["Chip", "Mapping"],
+    "chips": ["ChipRun"],
+}
 
 
 def package_files():
@@ -62,9 +99,9 @@ class InterfaceTest(unittest.TestCase):
                     self.assertEqual(str(inspect.signature(found)), arguments)
 
     def test_each_class_with_equality_defines_it(self):
-        for module, name in (("neurons", "Neuron"), ("networks", "Synapse"), ("networks", "Rule"),
-                             ("networks", "Network"), ("networks", "Run")):
-            self.assertIn("__eq__", vars(getattr(module_of(module), name)))
+        for module, names in COMPARED.items():
+            for name in names:
+                self.assertIn("__eq__", vars(getattr(module_of(module), name)))
 
 
 class LanguageTest(unittest.TestCase):

@@ -1,6 +1,5 @@
 """Networks, synapses, rules and runs as values; losses and gains (points 00.3, 02.1 and 02.2, steps 2 and 4 of 02.4)."""
 
-import copy
 import unittest
 
 from spikehold.networks import Network, Rule, Run, Synapse, depressed, potentiated
@@ -74,63 +73,6 @@ class RunTest(unittest.TestCase):
         spikes.append([1])
         weights.append(6)
         self.assertEqual(found, Run([[], [0]], [5]))
-
-
-class EqualityTest(unittest.TestCase):
-    def assert_compares_all(self, build, values, others):
-        """Assert that two objects are equal if and only if no value differs."""
-        self.assertIs(build(*values) == build(*copy.deepcopy(values)), True)
-        self.assertIs(build(*values) != build(*copy.deepcopy(values)), False)
-        self.assertEqual(len(values), len(others))
-        for k, other in enumerate(others):
-            changed = list(values)
-            changed[k] = other
-            with self.subTest(attribute=k):
-                self.assertIs(build(*values) == build(*changed), False)
-                self.assertIs(build(*changed) == build(*values), False)
-                self.assertIs(build(*values) != build(*changed), True)
-
-    def test_synapses(self):
-        self.assert_compares_all(Synapse, [1, 2, 3, 4, False], [2, 3, 4, 5, True])
-
-    def test_rules(self):
-        self.assert_compares_all(Rule, [1, 2, 3, 4, 5], [2, 3, 4, 5, 6])
-
-    def test_networks(self):
-        rule = Rule(1, 2, 3, 4, 5)
-        values = [1, [Neuron(5)], [Synapse(0, 0, 5, 1)], rule]
-        self.assert_compares_all(Network, values, [2, [Neuron(6)], [Synapse(0, 0, 5, 2)], None])
-        self.assert_compares_all(Network, values, [2, [Neuron(5), Neuron(5)], [], Rule(1, 2, 3, 4, 6)])
-
-    def test_networks_without_a_rule(self):
-        values = [1, [Neuron(5)], [Synapse(0, 0, 5, 1)], None]
-        self.assert_compares_all(Network, values, [0, [], [], Rule(1, 2, 3, 4, 5)])
-
-    def test_the_order_of_the_lists_counts(self):
-        one, other = Neuron(5), Neuron(6)
-        self.assertFalse(Network(0, [one, other], []) == Network(0, [other, one], []))
-        first, second = Synapse(0, 0, 5, 1), Synapse(0, 0, 6, 1)
-        self.assertFalse(Network(1, [one], [first, second]) == Network(1, [one], [second, first]))
-
-    def test_runs(self):
-        self.assert_compares_all(Run, [[[], [0]], [5]], [[[], []], [6]])
-
-    def test_unequal_to_values_of_other_classes(self):
-        objects = [Neuron(1), Synapse(1, 2, 3, 4), Rule(1, 2, 3, 4, 5), Network(0, [], []), Run([], [])]
-        values = [None, 0, 1, "", (), [], {}, (1, 2, 3, 4, False), (1, 2, 3, 4, 5), (0, [], [], None), ([], [])]
-        for k, one in enumerate(objects):
-            for other in objects[:k] + objects[k + 1:] + values:
-                self.assertIs(one == other, False)
-                self.assertIs(other == one, False)
-                self.assertIs(one != other, True)
-
-    def test_the_other_class_does_not_decide(self):
-        class EqualToAll:
-            def __eq__(self, other):
-                return True
-
-        for one in (Synapse(1, 2, 3, 4), Rule(1, 2, 3, 4, 5), Network(0, [], []), Run([], [])):
-            self.assertIs(one == EqualToAll(), False)
 
 
 class LossAndGainTest(unittest.TestCase):
