@@ -119,13 +119,20 @@ def state_after(network, state, arriving, tick):
     sums = _incoming_sums(network, weights, arriving)
     weights = _after_losses(network, weights, arriving, last_spikes, tick)
     last_arrivals = _noted(last_arrivals, arriving, tick)
-    steps = _steps(network, potentials, rests, sums)
-    potentials = tuple([row[0] for row in steps])
-    rests = tuple([row[1] for row in steps])
-    spiking = [n for n, row in enumerate(steps) if row[2]]
+    potentials, rests, spiking = after_steps(network, potentials, rests, sums)
     weights = _after_gains(network, weights, spiking, last_arrivals, tick)
     last_spikes = _noted(last_spikes, spiking, tick)
     return (potentials, rests, last_spikes, weights, last_arrivals), spiking
+
+
+def after_steps(network, potentials, rests, sums):
+    """Return the potentials and rests after each neuron did its step, as tuples, and the neurons that spike."""
+    steps = [
+        step(neuron, potentials[n], rests[n], sums[n])
+        for n, neuron in enumerate(network.neurons)
+    ]
+    spiking = [n for n, row in enumerate(steps) if row[2]]
+    return tuple([row[0] for row in steps]), tuple([row[1] for row in steps]), spiking
 
 
 def weights_of(state):
@@ -149,14 +156,6 @@ def _incoming_sums(network, weights, arriving):
     for k in arriving:
         sums[network.synapses[k].target] += weights[k]
     return sums
-
-
-def _steps(network, potentials, rests, sums):
-    """Return for each neuron what it does in a tick: its new potential, its new rest, whether it spikes."""
-    return [
-        step(neuron, potentials[n], rests[n], sums[n])
-        for n, neuron in enumerate(network.neurons)
-    ]
 
 
 def _after_losses(network, weights, arriving, last_spikes, tick):

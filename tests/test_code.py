@@ -47,6 +47,32 @@ INTERFACE = {
         "restored": "(network, chip, mapping, saved)",
         "run_chip": "(network, chip, mapping, stimuli)",
     },
+    "claims": {
+        "initial_state": "(network)",
+        "advance": "(network, state, stimulus)",
+        "stimulus_of": "(network, number)",
+        "next_watch": "(claim, watch, stimulus, spikes)",
+        "is_broken": "(claim, watch, spikes)",
+        "decide": "(network, claim, most)",
+        "check_answer": "(network, claim, answer)",
+    },
+    "improving": {
+        "mapping_of": "(network, chip, homes, gates)",
+        "cost": "(network, chip, homes, gates)",
+        "changes": "(chip, homes, gates)",
+        "improve": "(network, chip, homes, gates)",
+        "best_local_mapping": "(network, chip)",
+    },
+    "influence": {
+        "lags": "(network)",
+        "kept_neurons": "(network, wanted)",
+        "part_of": "(network, wanted)",
+    },
+    "texts": {
+        "format_network": "(network)",
+        "parse_network": "(lines)",
+        "parse_number": "(word)",
+    },
 }
 METHODS = {
     "networks": {"Network": {"sources": "(self)"}},
@@ -124,7 +150,9 @@ class LanguageTest(unittest.TestCase):
         for name in package_files():
             for node in ast.walk(ast.parse(text_of(name))):
                 self.assertNotIsInstance(node, ast.Import, name)
-                if isinstance(node, ast.ImportFrom):
+                if isinstance(node, ast.ImportFrom) and node.module == "heapq":
+                    self.assertLessEqual({alias.name for alias in node.names}, {"heappush", "heappop"}, name)
+                elif isinstance(node, ast.ImportFrom):
                     self.assertTrue(node.module.startswith("spikehold."), (name, node.module))
                     self.assertEqual(node.level, 0, name)
 
